@@ -1,0 +1,1 @@
+"""Evenwires: trees of wires of alike lengths."""
