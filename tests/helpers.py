@@ -57,6 +57,11 @@ def ask(test, function, *arguments):
     return told
 
 
+def tell(test, want, function, *arguments):
+    """Just this is told, of just this kind."""
+    test.assertEqual(repr(ask(test, function, *arguments)), repr(want), repr(arguments)[:300])
+
+
 def refuse(test, refusal, function, *arguments):
     """The refusal; the same again, with all that was handed in unchanged."""
     before = repr(arguments)

@@ -1,0 +1,23 @@
+"""Chains of a joining's knots, what is beneath them, where they meet."""
+
+
+def chain(many, joining, knot):
+    """The knot, the joint in whose row it stands, and so on up to the root."""
+    knots = [knot]
+    # A joint stands only in rows behind its own, so one way through finds all.
+    for joint, row in enumerate(joining, start=many):
+        if knots[-1] in row:
+            knots.append(joint)
+    return tuple(knots)
+
+
+def beneath(many, joining, knot):
+    """The ends beneath the knot, rising."""
+    return tuple([end for end in range(many) if knot in chain(many, joining, end)])
+
+
+def meeting(many, joining, one, other):
+    """The first knot that stands in the chains of both ends."""
+    others = chain(many, joining, other)
+    # Along a chain the numbers rise, so the first that is in both is the least.
+    return min([knot for knot in chain(many, joining, one) if knot in others])
