@@ -21,3 +21,13 @@ def meeting(many, joining, one, other):
     others = chain(many, joining, other)
     # Along a chain the numbers rise, so the first that is in both is the least.
     return min([knot for knot in chain(many, joining, one) if knot in others])
+
+
+def joints_above(joining):
+    """For each knot but the root the joint in whose row it stands."""
+    many = len(joining) + 1
+    found = [0] * (2 * len(joining))
+    for joint, row in enumerate(joining, start=many):
+        for knot in row:
+            found[knot] = joint
+    return tuple(found)

@@ -13,6 +13,11 @@ def wanted(ends, one, other):
     return first[2] + second[2] + steps(first[:2], second[:2])
 
 
+def started(ends):
+    """How many half steps all starts come to."""
+    return GRAIN * sum([start for x, y, start, load in ends])
+
+
 def row_of(ends, some):
     """The row (height, box) of some of the ends."""
     height = max([wanted(ends, one, other) for one in some for other in some])

@@ -1,6 +1,7 @@
 """What several tests need: right things, wrong parts, and asking twice."""
 
 import copy
+import itertools
 
 # Whatever stands in a whole number's place here makes a thing wrong.
 NO_NUMBERS = (
@@ -114,3 +115,126 @@ def any_ends(chance, many, wide=10, starts=10):
         (chance.randint(-wide, wide), chance.randint(-wide, wide),
          chance.randint(0, starts), chance.randint(0, 9))
         for end in range(many))
+
+
+def half_steps(ends, one, other):
+    """What two ends want, told apart from the program."""
+    x, y, start, load = ends[one]
+    a, b, begin, burden = ends[other]
+    return start + begin + abs(x - a) + abs(y - b)
+
+
+def spot_far(spot, end):
+    """How far, in half steps, a spot is from an end."""
+    return max(abs(spot[0] - 2 * (end[0] + end[1])), abs(spot[1] - 2 * (end[0] - end[1])))
+
+
+def spots_of(box):
+    """All spots of a small box."""
+    return set(itertools.product(range(box[0], box[1] + 1), range(box[2], box[3] + 1)))
+
+
+def field_about(ends, some, by):
+    """All spots about some ends, so much beyond the outermost."""
+    us = [2 * (ends[end][0] + ends[end][1]) for end in some]
+    vs = [2 * (ends[end][0] - ends[end][1]) for end in some]
+    return itertools.product(range(min(us) - by, max(us) + by + 1), range(min(vs) - by, max(vs) + by + 1))
+
+
+def beneath_each(many, joining):
+    """For each knot the ends beneath it, rising."""
+    found = [(end,) for end in range(many)]
+    for one, other in joining:
+        found.append(tuple(sorted(found[one] + found[other])))
+    return found
+
+
+def even_wires(ends, joining):
+    """For each knot {(spot, reach): wire}: the least wire at the grain 2 of even trees of the ends beneath it.
+
+    All of them are gone through, about the ends and up to one grain above the root's height.
+    """
+    many = len(ends)
+    every = range(many)
+    highest = max(half_steps(ends, one, other) for one in every for other in every) + 1
+    field = list(field_about(ends, every, highest))
+    found = [{((2 * (x + y), 2 * (x - y)), 2 * start): 0} for x, y, start, load in ends]
+    wired = [one_more_wire(wires, field, highest) for wires in found]
+    for one, other in joining:
+        here = {at: wired[one][at] + wired[other][at] for at in wired[one] if at in wired[other]}
+        found.append(here)
+        wired.append(one_more_wire(here, field, highest))
+    return found
+
+
+def one_more_wire(wires, field, highest):
+    """The least wire with one more wire on top, of whatever length, that ends at a spot."""
+    near = list(itertools.product((-1, 0, 1), repeat=2))
+    found = dict(wires)
+    for reach in range(highest + 1):
+        for u, v in field:
+            # A grain more of wire comes from a spot beside this one, or from here.
+            below = [found[((u + a, v + b), reach - 1)] + 1 for a, b in near
+                     if ((u + a, v + b), reach - 1) in found]
+            below += [found[((u, v), reach)]] if ((u, v), reach) in found else []
+            if below:
+                found[((u, v), reach)] = min(below)
+    return found
+
+
+def least_stands(wires):
+    """The pairs of a spot and a reach that the least of such wires have."""
+    least = min(wires.values())
+    return {at for at in wires if wires[at] == least}
+
+
+def above_each(many, joining):
+    """For each knot but the root the joint above it."""
+    return [many + [knot in row for row in joining].index(True) for knot in range(2 * many - 2)]
+
+
+def wire_up(many, joining, lengths, end):
+    """The wire from an end to the root, gone up knot by knot."""
+    above = above_each(many, joining)
+    wire = 0
+    while end != 2 * many - 2:
+        wire += lengths[end]
+        end = above[end]
+    return wire
+
+
+def spread(ends, joining, grain, lengths):
+    """The gap of a tree of these lengths, told apart from the program."""
+    found = [grain * ends[end][2] + wire_up(len(ends), joining, lengths, end) for end in range(len(ends))]
+    return max(found) - min(found)
+
+
+def apart_by_spots(tree, many, joining):
+    """How far each knot but the root is from the joint above it."""
+    spots = tree[1]
+    return [max(abs(spots[knot][0] - spots[joint][0]), abs(spots[knot][1] - spots[joint][1]))
+            for knot, joint in enumerate(above_each(many, joining))]
+
+
+def finer(tree, by):
+    """The same tree at a grain so many times as fine."""
+    grain, spots, lengths = tree
+    return (by * grain, tuple((by * u, by * v) for u, v in spots), tuple(by * length for length in lengths))
+
+
+def sides_exchanged(joining, which):
+    """The joining with the sides of those rows exchanged for which a truth stands."""
+    return tuple(row[::-1] if turned else row for row, turned in zip(joining, which))
+
+
+def reordered(chance, many, joining):
+    """The joining with its rows in some right order, and for each knot the number that it has then."""
+    numbers = list(range(many)) + [None] * len(joining)
+    rows = []
+    while len(rows) < len(joining):
+        ready = [k for k, (one, other) in enumerate(joining)
+                 if numbers[many + k] is None and numbers[one] is not None and numbers[other] is not None]
+        k = chance.choice(ready)
+        numbers[many + k] = many + len(rows)
+        rows.append((numbers[joining[k][0]], numbers[joining[k][1]]))
+    return tuple(rows), numbers

@@ -5,14 +5,9 @@ import random
 import unittest
 
 from evenwires.boxes import apart, corner, far, grown, has, met, nearest, spot_of
-from tests.helpers import ask, tell
+from tests.helpers import ask, spots_of, tell
 
 GREAT = 10 ** 12
-
-
-def spots_of(box):
-    """All spots of a small box."""
-    return set(itertools.product(range(box[0], box[1] + 1), range(box[2], box[3] + 1)))
 
 
 def small_boxes():

@@ -6,7 +6,8 @@ import unittest
 
 from evenwires.rows import joined, row_of, rows_of, wanted
 from tests.helpers import (
-    all_joinings, any_ends, any_joining, ask, chain_joining, exchanged, tell)
+    all_joinings, any_ends, any_joining, ask, beneath_each, chain_joining, even_wires, exchanged,
+    field_about, half_steps, least_stands, spot_far, spots_of, tell)
 
 MILLION = 10 ** 6
 
@@ -15,38 +16,6 @@ def choices(many):
     """All rising tuples of ends, with one at least."""
     for size in range(1, many + 1):
         yield from itertools.combinations(range(many), size)
-
-
-def half_steps(ends, one, other):
-    """What two ends want, told apart from the program."""
-    x, y, start, load = ends[one]
-    a, b, begin, burden = ends[other]
-    return start + begin + abs(x - a) + abs(y - b)
-
-
-def spot_far(spot, end):
-    """How far, in half steps, a spot is from an end."""
-    return max(abs(spot[0] - 2 * (end[0] + end[1])), abs(spot[1] - 2 * (end[0] - end[1])))
-
-
-def spots_of(box):
-    """All spots of a small box."""
-    return set(itertools.product(range(box[0], box[1] + 1), range(box[2], box[3] + 1)))
-
-
-def field_about(ends, some, by):
-    """All spots about some ends, so much beyond the outermost."""
-    us = [2 * (ends[end][0] + ends[end][1]) for end in some]
-    vs = [2 * (ends[end][0] - ends[end][1]) for end in some]
-    return itertools.product(range(min(us) - by, max(us) + by + 1), range(min(vs) - by, max(vs) + by + 1))
-
-
-def beneath_each(many, joining):
-    """For each knot the ends beneath it, rising."""
-    found = [(end,) for end in range(many)]
-    for one, other in joining:
-        found.append(tuple(sorted(found[one] + found[other])))
-    return found
 
 
 class Wanted(unittest.TestCase):
@@ -235,41 +204,9 @@ class RowsOf(unittest.TestCase):
 class LeastEvenTrees(unittest.TestCase):
     """A joint's row is where it stands in the even trees of least wire beneath it."""
 
-    def least_stands(self, ends, joining, field, highest):
-        """For each knot the pairs of a spot and a reach that the least even trees beneath it have."""
-        many = len(ends)
-        wires = []
-        for knot in range(many + len(joining)):
-            if knot < many:
-                x, y, start, load = ends[knot]
-                here = {((2 * (x + y), 2 * (x - y)), 2 * start): 0}
-            else:
-                one, other = joining[knot - many]
-                here = {at: wires[one][at] + wires[other][at] for at in wires[one] if at in wires[other]}
-            least = min(here.values())
-            yield {at for at in here if here[at] == least}
-            wires.append(self.wired(here, field, highest))
-
-    def wired(self, here, field, highest):
-        """The least wire with one more wire on top, of whatever length, that ends at a spot."""
-        near = list(itertools.product((-1, 0, 1), repeat=2))
-        found = dict(here)
-        for reach in range(highest + 1):
-            for u, v in field:
-                # A grain more of wire comes from a spot beside this one, or from here.
-                below = [found[((u + a, v + b), reach - 1)] + 1 for a, b in near
-                         if ((u + a, v + b), reach - 1) in found]
-                below += [found[((u, v), reach)]] if ((u, v), reach) in found else []
-                if below:
-                    found[((u, v), reach)] = min(below)
-        return found
-
     def gone_through(self, ends, joining):
-        every = tuple(range(len(ends)))
-        highest = max(half_steps(ends, one, other) for one in every for other in every) + 1
-        field = list(field_about(ends, every, highest))
         rows = ask(self, rows_of, ends, joining)
-        stands = list(self.least_stands(ends, joining, field, highest))
+        stands = [least_stands(wires) for wires in even_wires(ends, joining)]
         self.assertEqual(len(rows), len(stands))
         for (height, box), stand in zip(rows, stands):
             self.assertEqual({(spot, height) for spot in spots_of(box)}, stand, (ends, joining))
