@@ -31,3 +31,9 @@ def joints_above(joining):
         for knot in row:
             found[knot] = joint
     return tuple(found)
+
+
+def ahead(many, joining, one, other):
+    """The knots of one's chain ahead of where it meets other's: the wire on its side between both ends."""
+    others = chain(many, joining, other)
+    return tuple([knot for knot in chain(many, joining, one) if knot not in others])

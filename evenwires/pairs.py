@@ -15,9 +15,8 @@ def pairs_for(ends, joining):
 
 def first_pair(ends, some, height):
     """The first pair of these ends that wants the height."""
-    return min([
-        (one, other) for one in some for other in some
-        if one <= other and wanted(ends, one, other) == height])
+    # Exchanged, a pair wants as much, so the first one has the lesser end first.
+    return min([(one, other) for one in some for other in some if wanted(ends, one, other) == height])
 
 
 def pairs_shown(ends, joining, thing):

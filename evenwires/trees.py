@@ -23,9 +23,8 @@ def has_form(many, thing):
     if not isinstance(thing, tuple) or len(thing) != 3:
         return False
     grain, spots, lengths = thing
-    if not is_whole(grain) or grain < 1 or not are_spots(spots, 2 * many - 1):
-        return False
-    return are_wholes(lengths, 2 * many - 2) and all(length >= 0 for length in lengths)
+    # A length below 0 is left to the detours: it is less than any way.
+    return is_whole(grain) and grain >= 1 and are_spots(spots, 2 * many - 1) and are_wholes(lengths, 2 * many - 2)
 
 
 def are_spots(thing, many):

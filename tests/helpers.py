@@ -1,6 +1,7 @@
 """What several tests need: right things, wrong parts, and asking twice."""
 
 import copy
+import fractions
 import itertools
 
 # Whatever stands in a whole number's place here makes a thing wrong.
@@ -193,14 +194,18 @@ def above_each(many, joining):
     return [many + [knot in row for row in joining].index(True) for knot in range(2 * many - 2)]
 
 
-def wire_up(many, joining, lengths, end):
-    """The wire from an end to the root, gone up knot by knot."""
+def way_up(many, joining, end):
+    """The knots from an end up to the root, gone up knot by knot."""
     above = above_each(many, joining)
-    wire = 0
-    while end != 2 * many - 2:
-        wire += lengths[end]
-        end = above[end]
-    return wire
+    knots = [end]
+    while knots[-1] != 2 * many - 2:
+        knots.append(above[knots[-1]])
+    return knots
+
+
+def wire_up(many, joining, lengths, end):
+    """The wire from an end to the root."""
+    return sum(lengths[knot] for knot in way_up(many, joining, end)[:-1])
 
 
 def spread(ends, joining, grain, lengths):
@@ -238,3 +243,79 @@ def reordered(chance, many, joining):
         numbers[many + k] = many + len(rows)
         rows.append((numbers[joining[k][0]], numbers[joining[k][1]]))
     return tuple(rows), numbers
+
+
+def parted_ways(many, joining, one, other):
+    """The knots of one's way up that aren't on other's, and of other's that aren't on one's."""
+    first = way_up(many, joining, one)
+    second = way_up(many, joining, other)
+    return [knot for knot in first if knot not in second], [knot for knot in second if knot not in first]
+
+
+def short_pairs(ends, joining, grain, lengths):
+    """All pairs of ends, rising, with less wire between them than they are apart."""
+    found = []
+    for one, other in itertools.combinations(range(len(ends)), 2):
+        first, second = parted_ways(len(ends), joining, one, other)
+        way = abs(ends[one][0] - ends[other][0]) + abs(ends[one][1] - ends[other][1])
+        if sum(lengths[knot] for knot in first + second) < grain * way:
+            found.append((one, other))
+    return found
+
+
+def pulled(low, high, number):
+    """The nearest number from low to high."""
+    return sorted((low, number, high))[1]
+
+
+def laid_down(many, joining, boxes, root=None):
+    """The spots of knots with these boxes: the root as told, each other one as near as may be to the joint above."""
+    above = above_each(many, joining)
+    spots = {len(boxes) - 1: root or (boxes[-1][0], boxes[-1][2])}
+    for knot in range(len(boxes) - 2, -1, -1):
+        u, v = spots[above[knot]]
+        spots[knot] = (pulled(boxes[knot][0], boxes[knot][1], u), pulled(boxes[knot][2], boxes[knot][3], v))
+    return tuple(spots[knot] for knot in range(len(boxes)))
+
+
+def beside(box):
+    """Spots about a box that aren't in it: at each side, at each corner, and far off."""
+    low_u, high_u, low_v, high_v = box
+    us = (low_u - 1, low_u, high_u, high_u + 1)
+    vs = (low_v - 1, low_v, high_v, high_v + 1)
+    near = [(u, v) for u in us for v in vs if not (low_u <= u <= high_u and low_v <= v <= high_v)]
+    return near + [(10 ** 12, low_v), (low_u, -10 ** 12), (-10 ** 12, 10 ** 12)]
+
+
+def one_way_joinings(many):
+    """Every joining of so many ends with the lesser side first."""
+    return [joining for joining in all_joinings(many) if all(one < other for one, other in joining)]
+
+
+def times_borne(many, joining, rows):
+    """What each wire bears of a paper's rows, told apart from the program."""
+    found = [0] * (2 * many - 2)
+    for word, one, other, times in rows:
+        first, second = parted_ways(many, joining, one, other)
+        for knot in first:
+            found[knot] += times if word == "far" else -times
+        for knot in second:
+            found[knot] += times
+    return found
+
+
+def times_worth(ends, gap, paper):
+    """The fraction that a paper of times shows, told apart from the program."""
+    bottom, rows = paper
+    top = 0
+    for word, one, other, times in rows:
+        if word == "far":
+            top += times * (abs(ends[one][0] - ends[other][0]) + abs(ends[one][1] - ends[other][1]))
+        else:
+            top -= times * (gap + ends[other][2] - ends[one][2])
+    return fractions.Fraction(top, bottom)
+
+
+def as_pair(fraction):
+    """A fraction as it is told."""
+    return fraction.numerator, fraction.denominator

@@ -9,8 +9,8 @@ from evenwires.even import even_tree, even_wire
 from evenwires.pairs import pairs_for, pairs_shown
 from evenwires.trees import tree_holds
 from tests.helpers import (
-    above_each, all_joinings, any_ends, any_joining, ask, beneath_each, chain_joining, even_wires, exchanged,
-    half_steps, refuse, reordered, sides_exchanged, spot_far, spots_of, spread, tell)
+    above_each, all_joinings, any_ends, any_joining, ask, beneath_each, beside, chain_joining, even_wires, exchanged,
+    half_steps, laid_down, refuse, reordered, sides_exchanged, spot_far, spots_of, spread, tell)
 
 MILLION = 10 ** 6
 CORNERS = tuple((x, y, start, 1) for x in (-MILLION, MILLION) for y in (-MILLION, MILLION) for start in (0, MILLION))
@@ -30,11 +30,6 @@ def box_of(ends, some):
             max(v - by for u, v, by in balls), min(v + by for u, v, by in balls))
 
 
-def pulled(low, high, number):
-    """The nearest number from low to high."""
-    return sorted((low, number, high))[1]
-
-
 def least_wire(ends, joining):
     """The least even wire by what is told of it."""
     if len(ends) == 1:
@@ -48,22 +43,8 @@ def tree_told(ends, joining, root=None):
     some = beneath_each(len(ends), joining)
     boxes = [box_of(ends, beneath) for beneath in some]
     heights = [height_of(ends, beneath) for beneath in some]
-    above = above_each(len(ends), joining)
-    spots = {len(boxes) - 1: root or (boxes[-1][0], boxes[-1][2])}
-    for knot in range(len(boxes) - 2, -1, -1):
-        u, v = spots[above[knot]]
-        spots[knot] = (pulled(boxes[knot][0], boxes[knot][1], u), pulled(boxes[knot][2], boxes[knot][3], v))
-    lengths = tuple(heights[joint] - heights[knot] for knot, joint in enumerate(above))
-    return 2, tuple(spots[knot] for knot in range(len(boxes))), lengths
-
-
-def beside(box):
-    """Spots about a box that aren't in it: at each side, at each corner, and far off."""
-    low_u, high_u, low_v, high_v = box
-    us = (low_u - 1, low_u, high_u, high_u + 1)
-    vs = (low_v - 1, low_v, high_v, high_v + 1)
-    near = [(u, v) for u in us for v in vs if not (low_u <= u <= high_u and low_v <= v <= high_v)]
-    return near + [(10 ** 12, low_v), (low_u, -10 ** 12), (-10 ** 12, 10 ** 12)]
+    lengths = tuple(heights[joint] - heights[knot] for knot, joint in enumerate(above_each(len(ends), joining)))
+    return 2, laid_down(len(ends), joining, boxes, root), lengths
 
 
 class EvenWire(unittest.TestCase):
