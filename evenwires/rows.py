@@ -18,9 +18,14 @@ def started(ends):
     return GRAIN * sum([start for x, y, start, load in ends])
 
 
+def height_of(ends, some):
+    """The height of some of the ends: the most that any two of them want."""
+    return max([wanted(ends, one, other) for one in some for other in some])
+
+
 def row_of(ends, some):
     """The row (height, box) of some of the ends."""
-    height = max([wanted(ends, one, other) for one in some for other in some])
+    height = height_of(ends, some)
     box = reached(ends[some[0]], height)
     for end in some[1:]:
         box = met(box, reached(ends[end], height))

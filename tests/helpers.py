@@ -319,3 +319,47 @@ def times_worth(ends, gap, paper):
 def as_pair(fraction):
     """A fraction as it is told."""
     return fraction.numerator, fraction.denominator
+
+
+def height_of(ends, some):
+    """The height of some ends, told apart from the program."""
+    return max(half_steps(ends, one, other) for one in some for other in some)
+
+
+def least_wire(ends, joining):
+    """The least even wire by what is told of it."""
+    if len(ends) == 1:
+        return 0
+    heights = [height_of(ends, some) for some in beneath_each(len(ends), joining)[len(ends):]]
+    return sum(heights) + heights[-1] - 2 * sum(end[2] for end in ends)
+
+
+def rising_choices(many):
+    """All rising tuples of two ends or more, as tuples rise."""
+    return sorted(some for size in range(2, many + 1) for some in itertools.combinations(range(many), size))
+
+
+def two_parts(some):
+    """All ways to part some ends in two, both ways round."""
+    for size in range(1, len(some)):
+        for part in itertools.combinations(some, size):
+            yield part, tuple(end for end in some if end not in part)
+
+
+def room_of(ends, numbers, some):
+    """The most that the number of some ends may be, by those of their parts, which a dict has."""
+    return height_of(ends, some) + min(
+        numbers.get(one, 0) + numbers.get(other, 0) for one, other in two_parts(some))
+
+
+def table_of(numbers):
+    """The table of such numbers."""
+    return tuple(sorted(numbers.items()))
+
+
+def greatest_numbers(ends):
+    """For each choice of ends the greatest number that a table may have there."""
+    numbers = {}
+    for some in sorted(rising_choices(len(ends)), key=len):
+        numbers[some] = room_of(ends, numbers, some)
+    return numbers

@@ -10,15 +10,10 @@ from evenwires.pairs import pairs_for, pairs_shown
 from evenwires.trees import tree_holds
 from tests.helpers import (
     above_each, all_joinings, any_ends, any_joining, ask, beneath_each, beside, chain_joining, even_wires, exchanged,
-    half_steps, laid_down, refuse, reordered, sides_exchanged, spot_far, spots_of, spread, tell)
+    height_of, laid_down, least_wire, refuse, reordered, sides_exchanged, spot_far, spots_of, spread, tell)
 
 MILLION = 10 ** 6
 CORNERS = tuple((x, y, start, 1) for x in (-MILLION, MILLION) for y in (-MILLION, MILLION) for start in (0, MILLION))
-
-
-def height_of(ends, some):
-    """The height of some ends, told apart from the program."""
-    return max(half_steps(ends, one, other) for one in some for other in some)
 
 
 def box_of(ends, some):
@@ -28,14 +23,6 @@ def box_of(ends, some):
              for end in some]
     return (max(u - by for u, v, by in balls), min(u + by for u, v, by in balls),
             max(v - by for u, v, by in balls), min(v + by for u, v, by in balls))
-
-
-def least_wire(ends, joining):
-    """The least even wire by what is told of it."""
-    if len(ends) == 1:
-        return 0
-    heights = [height_of(ends, some) for some in beneath_each(len(ends), joining)[len(ends):]]
-    return sum(heights) + heights[-1] - 2 * sum(end[2] for end in ends)
 
 
 def tree_told(ends, joining, root=None):
