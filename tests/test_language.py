@@ -132,6 +132,17 @@ class Language(unittest.TestCase):
                 if isinstance(node, ast.Attribute):
                     self.assertIn(node.attr, METHODS | own, (name, node.lineno))
 
+    def test_methods_and_attributes(self):
+        methods = set()
+        attributes = set()
+        for name, tree in trees():
+            for node in ast.walk(tree):
+                if isinstance(node, ast.ClassDef):
+                    methods.update(part.name for part in node.body if isinstance(part, ast.FunctionDef))
+                if isinstance(node, ast.Attribute) and isinstance(node.ctx, ast.Store):
+                    attributes.add(node.attr)
+        self.assertEqual(methods & attributes, set())
+
     def test_values_and_statements(self):
         barred = (ast.Global, ast.Div, ast.Await, ast.AsyncFor, ast.AsyncWith, ast.Import)
         for name, tree in trees():
